@@ -1,0 +1,1 @@
+"""Ringword: words, their early pieces and their rings."""
