@@ -2,7 +2,7 @@
 
 from itertools import product
 
-from ringword.errors import NoWord
+from ringword.errors import NoWord, WordError
 
 LETTERS = "abcdefghijklmnopqrstuvwxyz"
 
@@ -77,15 +77,41 @@ def plain_early(word):
 SMALL_WORDS = all_words("ab", 8) + all_words("xyz", 5)
 
 
-def check_refused(case, call, *things):
-    """call(*things) is refused with NoWord, and with no class under it."""
-    with case.assertRaises(NoWord) as caught:
+def early_by_looking(signs, longest):
+    """The early words of at most longest letters, found among all words of the signs."""
+    return sorted(word for word in all_words(signs, longest) if plain_early(word))
+
+
+NO_SIGNS = NO_WORDS + [
+    "ba", "cab", "aa", "abb", "aab", "abca", "abdc", "zyx", "acb", "abcdefg", "tuvwxyz",
+    LETTERS, "abcdefa", "aaaaaa", "AB", "abC", "a b", ["a", "b"], ("a", "b", "c"), {"a": 1, "b": 2},
+    {"a", "b"}, "banana", "ab" * 150,
+]
+
+
+def no_counts(most):
+    """Things that are no number from 1 to most."""
+    return [
+        0, most + 1, most + 2, -1, -most, 10 ** 199, -(10 ** 199), 300 * most, True, False,
+        None, "", "1", "a", "12", b"", b"1", [], [1], (), (1,), {}, {1: 1}, {1}, set(),
+        object(), Odd(), int, len, range(3),
+    ]
+
+
+def check_refused(case, refusal, call, *things):
+    """call(*things) is refused with just that class of ringword/errors.py."""
+    with case.assertRaises(WordError) as caught:
         call(*things)
-    case.assertIs(type(caught.exception), NoWord)
+    case.assertIs(type(caught.exception), refusal)
+
+
+def check_refuses_each(case, refusal, wrong, call, before=(), after=()):
+    """The call refuses each wrong thing at the place between before and after."""
+    for thing in wrong:
+        with case.subTest(thing=repr(thing)[:40], before=before, after=after):
+            check_refused(case, refusal, call, *before, thing, *after)
 
 
 def check_refuses_no_words(case, call, before=(), after=()):
     """The call refuses all that is no word at the place between before and after."""
-    for thing in NO_WORDS:
-        with case.subTest(thing=repr(thing)[:40]):
-            check_refused(case, call, *before, thing, *after)
+    check_refuses_each(case, NoWord, NO_WORDS, call, before, after)

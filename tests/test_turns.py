@@ -2,6 +2,7 @@
 
 import unittest
 
+from ringword.errors import NoWord
 from ringword.turns import least_form, least_turn, steps_between
 from ringword.words import turned
 from tests.samples import (
@@ -153,7 +154,7 @@ class StepsBetween(unittest.TestCase):
 
     def test_the_first_word_is_looked_at_first(self):
         notes = []
-        check_refused(self, steps_between, Watched("one", notes), Watched("other", notes))
+        check_refused(self, NoWord, steps_between, Watched("one", notes), Watched("other", notes))
         self.assertNotIn("other", notes)
 
 
